@@ -18,9 +18,9 @@ const alignment = 8
 // crcPolynomial is Ethernet's, with its bits in reverse.
 const crcPolynomial = 0xedb88320
 
-// signed has one type for each width that a number in bytes may have.
-type signed interface {
-	int8 | int16 | int32 | int64
+// integer has a type for each form that a number in bytes may have.
+type integer interface {
+	int8 | int16 | int32 | int64 | uint16 | uint32 | uint64
 }
 
 func PackBits(bits []bool) []byte {
@@ -89,7 +89,7 @@ func UnpackInts(b []byte, width int) ([]int, int) {
 }
 
 // packAs takes T as the measure of what fits: a value that does not outlive the way there and back is too great.
-func packAs[T signed](values []int, width int) ([]byte, int) {
+func packAs[T integer](values []int, width int) ([]byte, int) {
 	b := make([]byte, 0, len(values)*width)
 	for _, v := range values {
 		n := T(v)
@@ -101,7 +101,7 @@ func packAs[T signed](values []int, width int) ([]byte, int) {
 	return b, CodeOK
 }
 
-func unpackAs[T signed](b []byte, width int) ([]int, int) {
+func unpackAs[T integer](b []byte, width int) ([]int, int) {
 	if len(b)%width != 0 {
 		return nil, CodeCorrupt
 	}
@@ -112,7 +112,7 @@ func unpackAs[T signed](b []byte, width int) ([]int, int) {
 	return values, CodeOK
 }
 
-func appendNumber[T signed](b []byte, n T, width int) []byte {
+func appendNumber[T integer](b []byte, n T, width int) []byte {
 	rest := uint64(n)
 	for range width {
 		b = append(b, byte(rest))
@@ -122,7 +122,7 @@ func appendNumber[T signed](b []byte, n T, width int) []byte {
 }
 
 // readNumber leaves the sign to the conversion to T, whose highest bit is that of the last byte.
-func readNumber[T signed](b []byte) T {
+func readNumber[T integer](b []byte) T {
 	var bits uint64
 	for i, x := range b {
 		bits |= uint64(x) << (8 * i)
